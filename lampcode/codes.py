@@ -27,9 +27,13 @@ def make_a_whole(lengths):
     return sum([whole >> length for length in lengths]) == whole
 
 
-def codes(book):
+def refuse_unless_book(book):
     if not is_book(book):
-        raise NoBook("the lengths are those of no book")
+        raise NoBook("the pairs are those of no book")
+
+
+def codes(book):
+    refuse_unless_book(book)
     code_of = {}
     code = ""
     for length, sign in sorted([(length, sign) for sign, length in book]):

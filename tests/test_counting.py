@@ -1,8 +1,7 @@
 import unittest
 
+from books import SIGNS
 from lampcode.counting import counts_of
-
-SIGNS = "".join(chr(number) for number in range(32, 127) if number != 37)
 
 
 class Counts(unittest.TestCase):

@@ -2,10 +2,10 @@ import itertools
 import unittest
 from fractions import Fraction
 
+from books import SIGNS
 from lampcode.counting import counts_of
 from lampcode.joining import book_of, joints
 
-SIGNS = "".join(chr(number) for number in range(32, 127) if number != 37)
 OF_POINT_5 = [("a", 3), ("b", 1), ("c", 1)]
 
 

@@ -28,8 +28,15 @@ ANSWERS = """
 from lampcode.codes import codes
 from lampcode.counting import counts_of
 from lampcode.joining import book_of, joints
-counts = counts_of("a lamp tells by short and long flashes what it has to tell, ~ 0123456789")
+from lampcode.notes import read_notes, shown
+from lampcode.numbers import flashes_of, number_of
+from lampcode.pressing import pressed, read
+text = "a lamp tells by short and long flashes what it has to tell, ~ 0123456789"
+counts = counts_of(text)
 print(counts, joints(counts), book_of(counts), codes(book_of(counts)))
+book, flashes = pressed(text)
+print(book, flashes, read(book, flashes), shown(book), read_notes(shown(book)))
+print(number_of(flashes), flashes_of(number_of(flashes)))
 """
 
 
